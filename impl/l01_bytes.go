@@ -102,14 +102,18 @@ func halveFour(sum uint32) uint32 {
 	return sum
 }
 
-func CheckSum(s string) uint32 {
-	var t sumTable
+func (t *sumTable) sumOf(s string) uint32 {
 	sum := uint32(sumEnds)
 	for i := range len(s) {
 		sum ^= uint32(s[i])
 		sum = t.shiftFour(t.shiftFour(sum))
 	}
 	return sum ^ sumEnds
+}
+
+func CheckSum(s string) uint32 {
+	var t sumTable
+	return t.sumOf(s)
 }
 
 func NameOk(s string) bool {
